@@ -4,16 +4,7 @@ import unittest
 
 from sixteenbit.core import answers, pd_clear, pd_set
 from sixteenbit.machine import Machine
-
-CLEAR = [1]
-
-
-def load(at, data):
-    return [2, at, len(data)] + data
-
-
-def look(at, n):
-    return [3, at, n]
+from tests.calls import ALL_OF_MEMORY, ALL_REGISTERS, CLEAR, WHY, ask, load, load_words, look, run, set_to
 
 
 class ClearTest(unittest.TestCase):
@@ -57,6 +48,20 @@ class ClearTest(unittest.TestCase):
         machine.why = 3
         self.assertEqual(pd_clear(machine), [0])
         self.assert_all_zero(machine)
+
+    def test_everything_is_seen_to_be_0_behind_it(self):
+        # MOV R1, (R2) and a word that is no instruction: memory, flags and why have changed by a run, too.
+        setting = [set_to(which, 0o4001 * which) for which in range(7)] + [set_to(8, 0o357), set_to(7, 0o1000)]
+        parts = ask(load_words(0o1000, [0o010112, 7]), *setting, set_to(2, 0o4000), run(5), WHY, CLEAR, WHY,
+                    *ALL_REGISTERS, *ALL_OF_MEMORY)
+        behind = parts[len(setting) + 2:]
+        self.assertEqual(behind[:13], [[1], [3], [0], [0]] + [[0]] * 9)
+        self.assertEqual({byte for part in behind[13:] for byte in part}, {0})
+
+    def test_a_run_behind_it_starts_at_0(self):
+        parts = ask(load_words(0o1000, [0o005200]), set_to(7, 0o1000), run(1), CLEAR, load_words(0, [0o005201]), run(2),
+                    WHY, *ALL_REGISTERS)
+        self.assertEqual(parts[5:], [[2], [1], [0], [1]] + [[0]] * 5 + [[4], [0]])
 
 
 if __name__ == "__main__":

@@ -9,8 +9,41 @@ from unittest import mock
 from sixteenbit import core
 from sixteenbit.core import UnknownCall, answers
 
+# Of the calls 5 to 8: 001000 holds INC R0 and WAIT, 002000 INC R1 and 000002, and 4 a vector to it.
 SEVERAL = [
     1,
+    2, 512, 4, 0o200, 0o012, 1, 0,
+    2, 1024, 4, 0o201, 0o012, 2, 0,
+    2, 4, 4, 0, 4, 0o340, 0,
+    4, 7, 512,
+    4, 6, -2,
+    4, 8, 0o105,
+    7,
+    6, 10,
+    7,
+    6, -1,
+    7,
+    8, 4, 2,
+    8, 3, 7,
+    8, 4, 7,
+    5, 8,
+    5, 6,
+    5, 7,
+    3, 65530, 4,
+    6, 2,
+    7,
+    5, 0,
+    5, 1,
+    5, 7,
+    5, 8,
+    5, 9,
+    4, 6, 1,
+    8, 4, 7,
+    6, 0,
+    7,
+    1,
+    7,
+    5, 6,
     2, 10, 3, 7, 8, 9,
     3, 10, 3,
     4, 6, 1000,
@@ -23,6 +56,38 @@ SEVERAL = [
     3, 10, 1,
 ]
 SEVERAL_ANSWERS = [
+    1, 0,
+    1, 0,
+    1, 0,
+    1, 0,
+    1, 0,
+    1, 0,
+    1, 0,
+    1, 0,
+    1, 2,
+    1, 2,
+    1, -1,
+    1, 2,
+    1, 0,
+    1, -1,
+    1, 1,
+    1, 0o340,
+    1, 65530,
+    1, 1024,
+    5, 0, 4, 2, 0o101, 0,
+    1, 2,
+    1, 0,
+    1, 1,
+    1, 1,
+    1, 516,
+    1, 0o101,
+    1, -1,
+    1, 0,
+    1, -2,
+    1, 0,
+    1, 0,
+    1, 0,
+    1, 0,
     1, 0,
     1, 0,
     4, 0, 7, 8, 9,
@@ -75,6 +140,23 @@ class SizeTest(unittest.TestCase):
     def test_400_calls(self):
         self.assertEqual(answers([1] * 400), [1, 0] * 400)
         self.assertEqual(answers([1] + [4, 9, 0] * 399), [1, 0] + [1, -1] * 399)
+
+    def test_400_calls_of_every_kind(self):
+        # INC R0 and a branch back to it; each of the rounds runs it once and is interrupted once.
+        calls, expected = [1, 2, 512, 4, 0o200, 0o012, 0o376, 1, 2, 4, 2, 0, 2], [1, 0, 1, 0, 1, 0]
+        for k in range(49):
+            calls += [4, 7, 512, 6, 2, 7, 5, 0, 5, 7, 8, 4, 1, 5, 7, 3, 512, 2]
+            expected += [1, 0, 1, 2, 1, 0, 1, k + 1, 1, 512, 1, 1, 1, 512, 3, 0, 0o200, 0o012]
+        calls += [7, 5, 6, 7, 7, 7]
+        expected += [1, 0, 1, 65536 - 4 * 49, 1, 0, 1, 0, 1, 0]
+        self.assertEqual(answers(calls), expected)
+        self.assertEqual(3 + 8 * 49 + 5, 400)
+
+    def test_runs_are_gone_through_by_loops(self):
+        # A thousand calls within one another are allowed: more subroutines and interrupts than that.
+        words = [0o004737, 512]
+        self.assertEqual(answers([1, 2, 512, 4] + [byte for w in words for byte in (w & 255, w >> 8)]
+                                 + [4, 7, 512, 6, 20000, 5, 6]), [1, 0, 1, 0, 1, 0, 1, 20000, 1, 25536])
 
     def test_400_calls_with_the_longest_answers(self):
         one = [2001, 0, 5] + [0] * 1999

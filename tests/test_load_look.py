@@ -5,17 +5,7 @@ import unittest
 
 from sixteenbit.core import answers, pd_look
 from sixteenbit.machine import Machine
-
-LEAST = -2147483648
-GREATEST = 2147483647
-
-
-def load(at, data):
-    return [2, at, len(data)] + data
-
-
-def look(at, n):
-    return [3, at, n]
+from tests.calls import GREATEST, LEAST, load, look
 
 
 def behind_clear(*calls):
